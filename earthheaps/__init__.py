@@ -1,0 +1,1 @@
+"""Optimal transport on a graph: distributions, lowest costs and optimal plans."""
