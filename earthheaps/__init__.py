@@ -1,1 +1,1 @@
-"""Optimal transport on a graph: distributions, lowest costs and optimal plans."""
+"""Optimal transport on a graph: lowest costs, and the plans and potentials behind them."""

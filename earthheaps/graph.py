@@ -3,16 +3,22 @@
 
 # A distance is None where there is no path.
 def all_distances(lengths):
-    points = len(lengths)
-    distances = [[length if length > 0 else None for length in row] for row in lengths]
-    for point in range(points):
-        distances[point][point] = 0
+    steps = [[length if length > 0 else None for length in row] for row in lengths]
+    for point in range(len(lengths)):
+        steps[point][point] = 0
+    return shortest_ways(steps)
+
+
+# Steps may be below 0, so long as no way that ends where it began is.
+def shortest_ways(steps):
+    points = len(steps)
+    ways = [list(row) for row in steps]
     for middle in range(points):
         for start in range(points):
             for end in range(points):
-                way = joined(distances[start][middle], distances[middle][end])
-                distances[start][end] = shorter(distances[start][end], way)
-    return distances
+                way = joined(ways[start][middle], ways[middle][end])
+                ways[start][end] = shorter(ways[start][end], way)
+    return ways
 
 
 def joined(first, second):

@@ -1,6 +1,8 @@
 """Exact fractions, kept as whole numbers."""
 
 
+# It has the sign of the second number, unless that is 0: so a fraction's denominator
+# stays above 0 in lowest terms.
 def greatest_divisor(first, second):
     while second != 0:
         rest = first % second

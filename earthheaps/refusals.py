@@ -24,3 +24,8 @@ class Malformed(Refusal):
 class NoPath(Refusal):
     def __init__(self):
         Refusal.__init__(self, -33)
+
+
+class TooLarge(Refusal):
+    def __init__(self):
+        Refusal.__init__(self, -75)

@@ -6,6 +6,10 @@ from itertools import permutations
 from math import lcm
 
 
+def shares(weights):
+    return [Fraction(weight) / sum(weights) for weight in weights]
+
+
 def length_of(edges, i, j):
     return edges.get((i, j), 0) or edges.get((j, i), 0)
 
@@ -101,8 +105,7 @@ def corner_plan(cells, rows, columns):
 def best_by_corners(first, second, distances):
     """By all plans that are no mean of two others: a best one is always among them."""
     n = len(first)
-    rows = [Fraction(weight, sum(first)) for weight in first]
-    columns = [Fraction(weight, sum(second)) for weight in second]
+    rows, columns = shares(first), shares(second)
     everywhere = [(i, j) for i in range(n) for j in range(n)]
     plans = [corner_plan(cells, rows, columns) for cells in combinations(everywhere, 2 * n - 1)]
     return best_plan([plan for plan in plans if plan], distances)
@@ -125,7 +128,47 @@ def all_prices(distances):
     return continued((0,))
 
 
+def value_of(prices, first, second):
+    return sum(f * (b - a) for f, a, b in zip(prices, shares(first), shares(second)))
+
+
 def cost_by_prices(first, second, distances):
     """The lowest cost as the greatest value of all prices."""
-    gains = [Fraction(b, sum(second)) - Fraction(a, sum(first)) for a, b in zip(first, second)]
-    return max(sum(f * gain for f, gain in zip(prices, gains)) for prices in all_prices(distances))
+    return max(value_of(prices, first, second) for prices in all_prices(distances))
+
+
+def best_prices(first, second, distances):
+    """The greatest value, and of its prices those that are greatest everywhere."""
+    valued = [(value_of(prices, first, second), prices) for prices in all_prices(distances)]
+    value = max(valued)[0]
+    best = [prices for found, prices in valued if found == value]
+    greatest = tuple(max(column) for column in zip(*best))
+    if greatest not in best:
+        raise AssertionError("no prices are greatest everywhere")
+    return value, list(greatest)
+
+
+def are_feasible(prices, distances):
+    n = len(prices)
+    return all(prices[j] - prices[i] <= distances[i][j] for i in range(n) for j in range(n))
+
+
+def are_margins(plan, first, second):
+    rows = [sum(row) for row in plan]
+    columns = [sum(column) for column in zip(*plan)]
+    return rows == shares(first) and columns == shares(second)
+
+
+def composition(plan, onward, middle):
+    n = len(middle)
+    return [[sum(plan[i][j] * onward[j][k] / middle[j] for j in range(n) if middle[j] > 0)
+             for k in range(n)] for i in range(n)]
+
+
+def mapped(probabilities, targets):
+    return [sum((p for p, target in zip(probabilities, targets) if target == point), Fraction(0))
+            for point in range(len(probabilities))]
+
+
+def mean(first, second):
+    return [(p + q) / 2 for p, q in zip(first, second)]

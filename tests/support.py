@@ -1,6 +1,7 @@
 """How the tests put calls into one list and take the answers apart again."""
 
 from fractions import Fraction
+from math import lcm
 
 from earthheaps.transport import answers
 
@@ -34,6 +35,34 @@ def min_cost(k, l):
 
 def optimal_plan(k, l):
     return [6, k, l]
+
+
+def optimal_potentials(k, l):
+    return [7, k, l]
+
+
+def check_plan(k, l, denominator, entries):
+    return [8, k, l, denominator, len(entries)] + list(entries)
+
+
+def check_potentials(k, l, potentials):
+    return [9, k, l, len(potentials)] + list(potentials)
+
+
+def compose_plans(k, l, m):
+    return [10, k, l, m]
+
+
+def map_distribution(k, m, targets):
+    return [11, k, m, len(targets)] + list(targets)
+
+
+def average(k, l, m):
+    return [12, k, l, m]
+
+
+def is_connected():
+    return [13]
 
 
 def joined(calls):
@@ -93,10 +122,6 @@ def as_fractions(numbers):
     return fractions
 
 
-def shares(weights):
-    return [Fraction(weight, sum(weights)) for weight in weights]
-
-
 def cost_of(answer):
     if answer[0] != 0 or len(answer) != 3:
         raise AssertionError(f"{answer} is not a cost")
@@ -109,3 +134,29 @@ def plan_of(answer, n):
         raise AssertionError(f"{answer} is not a plan of {n} points")
     fractions = as_fractions(answer[1:])
     return [fractions[n * row:n * row + n] for row in range(n)], fractions[-1]
+
+
+def potentials_of(answer, n):
+    """The potentials, and the value that is told with them."""
+    if answer[0] != n or len(answer) != 1 + n + 2:
+        raise AssertionError(f"{answer} is not potentials of {n} points")
+    return answer[1:-2], as_fractions(answer[-2:])[0]
+
+
+def told_of(answer):
+    """Whether plan or potentials hold, and the cost or value behind that."""
+    if answer[0] not in (0, 1) or len(answer) != 3:
+        raise AssertionError(f"{answer} is no answer with a cost or a value")
+    return answer[0] == 1, as_fractions(answer[1:])[0]
+
+
+def shares_of(answer, n):
+    if answer[0] != n or len(answer) != 1 + 2 * n:
+        raise AssertionError(f"{answer} is not a distribution on {n} points")
+    return as_fractions(answer[1:])
+
+
+def as_whole(plan):
+    """The fewest units that all entries are whole numbers of, and these numbers, row by row."""
+    units = lcm(*[p.denominator for row in plan for p in row])
+    return units, [int(p * units) for row in plan for p in row]

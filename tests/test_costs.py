@@ -1,10 +1,9 @@
 import unittest
-from fractions import Fraction
 
 from tests.cases import GRAPHS, NO_SLOTS, NOT_CONNECTED, heavy_cases, small_cases
 from tests.independent import best_by_corners, best_by_units, cost_by_prices
 from tests.support import (ask, build, cost_of, create, last_answer, min_cost, optimal_plan, set_edge,
-                           shares, state_calls)
+                           state_calls)
 
 
 def cost(n, edges, first, second):
@@ -74,37 +73,6 @@ class MinCost(unittest.TestCase):
             with self.subTest(name):
                 given = ask(*calls, min_cost(0, 0), min_cost(0, 1), min_cost(1, 0), min_cost(3, 2))
                 self.assertEqual(given[len(calls):], [[0, 0, 1]] * 4)
-
-
-class Metric(unittest.TestCase):
-    def test_symmetric_and_0_only_between_equal_ones(self):
-        for name, n, edges, _, first, second in heavy_cases(6, 12):
-            with self.subTest(name, first=first, second=second):
-                there = cost(n, edges, first, second)
-                self.assertEqual(there, cost(n, edges, second, first))
-                self.assertGreaterEqual(there, 0)
-                self.assertEqual(there == 0, shares(first) == shares(second))
-
-    def test_triangle_inequality(self):
-        cases = list(heavy_cases(6, 12))
-        for (name, n, edges, _, a, b), (_, other_n, _, _, c, _) in zip(cases, cases[1:]):
-            if n != other_n:
-                continue
-            with self.subTest(name, a=a, b=b, c=c):
-                calls = build(n, edges, [a, b, c])
-                given = ask(*calls, min_cost(0, 2), min_cost(0, 1), min_cost(1, 2))[len(calls):]
-                direct, first, second = [cost_of(answer) for answer in given]
-                self.assertLessEqual(direct, first + second)
-
-    def test_bounds(self):
-        for name, n, edges, distances, first, second in heavy_cases(6, 12):
-            pairs = zip(shares(first), shares(second))
-            moved = sum(max(Fraction(0), a - b) for a, b in pairs)
-            apart = [distances[i][j] for i in range(n) for j in range(n) if i != j] or [0]
-            with self.subTest(name, first=first, second=second):
-                found = cost(n, edges, first, second)
-                self.assertLessEqual(found, moved * max(apart))
-                self.assertGreaterEqual(found, moved * min(apart))
 
 
 class Refusals(unittest.TestCase):

@@ -1,12 +1,13 @@
 import unittest
 
-from tests.support import (HIGHEST, LOWEST, ask, build, create, distance, distribution, last_answer,
-                           min_cost, optimal_plan, set_distribution, set_edge, state_calls)
+from tests.support import (HIGHEST, LOWEST, ask, average, build, check_plan, check_potentials,
+                           compose_plans, create, distance, distribution, is_connected, last_answer,
+                           map_distribution, min_cost, optimal_plan, optimal_potentials,
+                           set_distribution, set_edge, state_calls)
 
 OUT_OF_RANGE = [LOWEST, LOWEST + 1, -7, -1, 0, 7, 8, 100, HIGHEST - 1, HIGHEST]
 
-# A call each, well-formed on an instance with two points, and all the calls that
-# come with a later stage: without an instance they are refused all the same.
+# A call each, well-formed on an instance with two points.
 OTHER_CALLS = [
     set_edge(0, 1, 1),
     set_distribution(0, [1, 1]),
@@ -14,15 +15,13 @@ OTHER_CALLS = [
     distance(0, 0),
     min_cost(0, 0),
     optimal_plan(0, 0),
-]
-LATER_CALLS = [
-    [7, 0, 0],
-    [8, 0, 0, 1, 4, 1, 0, 0, 0],
-    [9, 0, 0, 2, 0, 0],
-    [10, 0, 0, 0],
-    [11, 0, 0, 2, 0, 0],
-    [12, 0, 0, 0],
-    [13],
+    optimal_potentials(0, 0),
+    check_plan(0, 0, 1, [1, 0, 0, 0]),
+    check_potentials(0, 0, [0, 0]),
+    compose_plans(0, 0, 0),
+    map_distribution(0, 0, [0, 0]),
+    average(0, 0, 0),
+    is_connected(),
 ]
 # Refused for other reasons too, which come second.
 WRONG_CALLS = [
@@ -35,13 +34,17 @@ WRONG_CALLS = [
     distance(LOWEST, HIGHEST),
     min_cost(LOWEST, HIGHEST),
     optimal_plan(HIGHEST, LOWEST),
-    [8, LOWEST, HIGHEST, LOWEST, 0],
-    [8, 0, 0, 0, 70] + [HIGHEST] * 70,
-    [9, 4, 4, 0],
-    [9, 4, 4, 70] + [LOWEST] * 70,
-    [11, -1, -1, 70] + [0] * 70,
+    optimal_potentials(LOWEST, 4),
+    check_plan(LOWEST, HIGHEST, LOWEST, []),
+    check_plan(0, 0, 0, [HIGHEST] * 70),
+    check_potentials(4, 4, []),
+    check_potentials(0, 0, [LOWEST] * 70),
+    compose_plans(0, -1, 4),
+    map_distribution(-1, -1, [0] * 70),
+    map_distribution(0, 0, []),
+    average(HIGHEST, HIGHEST, HIGHEST),
 ]
-NO_INSTANCE_CALLS = OTHER_CALLS + LATER_CALLS + WRONG_CALLS
+NO_INSTANCE_CALLS = OTHER_CALLS + WRONG_CALLS
 
 
 class Create(unittest.TestCase):
@@ -90,6 +93,9 @@ class Create(unittest.TestCase):
 
 
 class NoInstance(unittest.TestCase):
+    def test_each_number_is_among_these(self):
+        self.assertEqual([call[0] for call in OTHER_CALLS], list(range(1, 14)))
+
     def test_each_call_at_first(self):
         for call in NO_INSTANCE_CALLS:
             with self.subTest(call=call):

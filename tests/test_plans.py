@@ -2,8 +2,8 @@ import unittest
 from random import Random
 
 from tests.cases import GRAPHS, heavy, heavy_cases, small_cases
-from tests.independent import best_by_corners, best_by_units, distances_by_trial, plan_cost
-from tests.support import ask, build, cost_of, last_answer, min_cost, optimal_plan, plan_of, shares
+from tests.independent import best_by_corners, best_by_units, distances_by_trial, plan_cost, shares
+from tests.support import ask, build, cost_of, last_answer, min_cost, optimal_plan, plan_of
 
 
 def plan_and_cost(n, edges, first, second):
